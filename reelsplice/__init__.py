@@ -1,0 +1,1 @@
+"""Reelsplice: which frame of a spliced tape is from which reel."""

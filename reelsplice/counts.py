@@ -1,0 +1,71 @@
+"""Stage 5: counts; cuts by their numbers in ascending order."""
+
+from reelsplice.layers import reached
+from reelsplice.plans import Plan
+
+
+def count_cuts(case):
+    """The number of cuts of a case."""
+    plan = Plan(case)
+    return many_behind(ways_to_end(plan), 0, plan.first)
+
+
+def nth_cut(case, n):
+    """The cut before which there are just n in ascending order, or None."""
+    plan = Plan(case)
+    ways = ways_to_end(plan)
+    if n >= many_behind(ways, 0, plan.first):
+        return None
+    row, pairs, left = plan.first, [], n
+    for k in range(plan.frames):
+        for r, place, after in plan.steps(k, row):
+            many = many_behind(ways, k + 1, after)
+            if left < many:
+                row = after
+                pairs.append((r, place))
+                break
+            left -= many
+    return tuple(pairs)
+
+
+def number_of(case, cut):
+    """How many cuts there are before a cut in ascending order."""
+    plan = Plan(case)
+    ways = ways_to_end(plan)
+    row, number = plan.first, 0
+    for k, pair in enumerate(cut):
+        for r, place, after in plan.steps(k, row):
+            if (r, place) == pair:
+                row = after
+                break
+            number += many_behind(ways, k + 1, after)
+    return number
+
+
+def many_behind(ways, k, row):
+    """In how many ways a row at k comes to an end."""
+    return ways[k][row[1]][row[0]]
+
+
+def ways_to_end(plan):
+    """For each k the layer of the rows that are reached, with the number of ways in which each comes to an end."""
+    layers = reached(plan)
+    last = {kept: {runs: 1 if plan.ends(runs) else 0 for runs in part} for kept, part in layers[plan.frames].items()}
+    ways = [last]
+    for k in reversed(range(plan.frames)):
+        ways.append(ways_from(plan, k, layers[k], ways[-1]))
+    return ways[::-1]
+
+
+def ways_from(plan, k, layer, following):
+    """A layer at k with the number of ways in which each row comes to an end, by those of the following layer."""
+    found = {}
+    for kept, part in layer.items():
+        ways = {runs: 0 for runs in part}
+        for r, kept_after in plan.choices(k, kept):
+            target = following[kept_after]
+            for runs in part:
+                for _, after in plan.moves(k, r, runs):
+                    ways[runs] += target[after]
+        found[kept] = ways
+    return found

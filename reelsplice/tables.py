@@ -1,0 +1,70 @@
+"""Stage 4: tables, which show that there is no cut (points [8] and [9])."""
+
+from reelsplice.layers import ending_row, reached, rows_of
+from reelsplice.plans import Plan
+from reelsplice.rows import is_row
+
+
+def first_row(case):
+    """The row at 0 without used frames."""
+    return Plan(case).first
+
+
+def steps(case, k, row):
+    """The steps from a row at k, ascending, as tuples (reel, place, row behind it)."""
+    plan = Plan(case)
+    return plan.steps(k, row) if k < plan.frames else []
+
+
+def ends(case, row):
+    """Whether a row at the number of frames ends."""
+    return Plan(case).ends(row[0])
+
+
+def find_table(case):
+    """The table of all rows that steps lead to, or None if there is a cut."""
+    plan = Plan(case)
+    layers = reached(plan)
+    if ending_row(plan, layers[plan.frames]) is not None:
+        return None
+    return [rows_of(layer) for layer in layers]
+
+
+def layer_of(plan, k, value):
+    """The layer of a list of rows at k, or None if any value is no such list or has one twice."""
+    if not isinstance(value, list):
+        return None
+    layer = {}
+    for row in value:
+        if not is_row(plan, k, row):
+            return None
+        runs, kept = row
+        part = layer.setdefault(kept, {})
+        if runs in part:
+            return None
+        part[runs] = True
+    return layer
+
+
+def leads_into(plan, k, layer, following):
+    """Whether each step from a layer at k leads to a row of the following one."""
+    for kept, part in layer.items():
+        for r, kept_after in plan.choices(k, kept):
+            target = following.get(kept_after, {})
+            for runs in part:
+                if not all([after in target for _, after in plan.moves(k, r, runs)]):
+                    return False
+    return True
+
+
+def is_table(case, value):
+    """Whether any value is a table of a case."""
+    plan = Plan(case)
+    if not isinstance(value, list) or len(value) != plan.frames + 1:
+        return False
+    layers = [layer_of(plan, k, rows) for k, rows in enumerate(value)]
+    if None in layers or plan.first_runs not in layers[0].get((), {}):
+        return False
+    if ending_row(plan, layers[plan.frames]) is not None:
+        return False
+    return all([leads_into(plan, k, layers[k], layers[k + 1]) for k in range(plan.frames)])
