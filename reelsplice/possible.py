@@ -28,9 +28,8 @@ def pairs_at(plan, k, layer, following):
     for kept, part in layer.items():
         for r, kept_after in plan.choices(k, kept):
             target = following[kept_after]
-            for runs, ways in part.items():
-                if ways > 0:
-                    for place, after in plan.moves(k, r, runs):
-                        if target[after] > 0:
-                            pairs.add((r, place))
+            for runs in part:
+                for place, after in plan.moves(k, r, runs):
+                    if target[after] > 0:
+                        pairs.add((r, place))
     return sorted(pairs)

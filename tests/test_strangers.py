@@ -7,8 +7,8 @@ from itertools import product
 
 from reelsplice.cuts import find_cut, is_cut
 from reelsplice.strangers import fewest_strangers, find_loose, find_values, is_loose, shows
-from tests.helper import (BACK, CASE, FULL, LONG, LOSSY, ODD, OPEN_TAPE, TURNING, all_loose, all_rows, ends_by_words,
-                          frames_kept_at, large_cases, parts_changed, random_cases, stands, steps_by_words)
+from tests.helper import (BACK, CASE, FULL, LONG, LOSSY, ODD, OPEN_TAPE, TURNING, all_loose, all_rows, all_runs,
+                          ends_by_words, frames_kept_at, large_cases, parts_changed, random_cases, stands, steps_by_words)
 
 START = (((0, -1, 0),), ())
 NUMBERS = [0, 1, 2, 5, 17, 10 ** 29]
@@ -246,6 +246,32 @@ class Values(unittest.TestCase):
         for value in ODD:
             if hashable(value):
                 self.check(False, case, values[:2] + [{**values[2], value: 0}] + values[3:], 0)
+
+    def test_runs_that_there_are_not(self):
+        for reel in [('a', 1, True), ('ab', 1, False), ('ab', 2, True), ('abc', 1, True), ('abc', 3, False)]:
+            many = len(reel[0])
+            runs = all_runs(reel)
+            case = ((reel,), ('?',) * 4, ())
+            values = [{row: 0 for row in all_rows(case, k, loose=True)} for k in range(5)]
+            self.check(True, case, values, 0)
+            for run in product(range(-2, many + 3), range(-2, many + 2), range(-2, 3)):
+                more = {**values[4], ((run,), ()): 0}
+                self.check(run in runs, case, values[:4] + [more], 0)
+            both = ((reel, ('ab', 2, False)), ('?',) * 4, ())
+            values = [{row: 0 for row in all_rows(both, k, loose=True)} for k in range(5)]
+            for run in [(-1, -1, 0), (-1, 0, 1), (0, 0, 0), (0, -1, 1), (0, 0, 1), (0, 0, -1), (1, -1, 0), (2, -1, 1)]:
+                for other in all_runs(both[0][1]):
+                    more = {**values[4], ((run, other), ()): 0}
+                    self.check(False, both, values[:4] + [more], 0)
+
+    def test_more_frames_used_than_there_are(self):
+        for case in small_cases(62, 30):
+            values = [{row: 0 for row in all_rows(case, k, loose=True)} for k in range(len(case[1]) + 1)]
+            rows = [(runs, ()) for runs in product(*[all_runs(reel) for reel in case[0]])]
+            for k, costs in enumerate(values):
+                for row in rows:
+                    if sum(run[0] for run in row[0]) > k:
+                        self.check(False, case, values[:k] + [{**costs, row: 0}] + values[k + 1:], 0)
 
     def test_truths_in_keys(self):
         case = ((('a', 1, False),), ('a', '?'), (('same', 0, 1),))

@@ -2,11 +2,12 @@
 
 import copy
 import unittest
+from itertools import product
 
 from reelsplice.cuts import find_cut
 from reelsplice.tables import ends, find_table, first_row, is_table, steps
-from tests.helper import (BACK, CASE, FULL, LONG, LOSSY, ODD, OPEN_TAPE, TURNING, all_cuts, all_rows, ends_by_words,
-                          large_cases, parts_changed, random_cases, steps_by_words)
+from tests.helper import (BACK, CASE, FULL, LONG, LOSSY, ODD, OPEN_TAPE, TURNING, all_cuts, all_rows, all_runs,
+                          ends_by_words, large_cases, parts_changed, random_cases, steps_by_words)
 
 START = (((0, -1, 0),), ())
 ONE = (((1, 1, 0),), ())
@@ -175,6 +176,24 @@ class IsTable(unittest.TestCase):
         self.check(False, BACK, [[START], [ONE, (((1, 1, 1),), ())], []], [[START], [ONE, (((1, 1, -1),), ())], []])
         self.check(False, BACK, [[START], [ONE], [(((2, 0, -1),), ())]], [[START], [ONE], [(((1, 1, 0),), ())]])
         self.check(False, BACK, [[START], [ONE, (((1, 1, 0), (0, -1, 0)), ())], []], [[START], [ONE, ((), ())], []])
+
+    def test_runs_that_there_are_not(self):
+        for reel in [('abc', 1, True), ('abc', 2, False), ('aa', 2, True)]:
+            runs = all_runs(reel)
+            case = ((reel, ('zz', 0, False)), ('?',) * 2 + ('',), ())
+            full = [all_rows(case, k) for k in range(4)]
+            full[3] = [row for row in full[3] if not ends_by_words(case, row)]
+            table = [full[0], full[1], full[2], []]
+            self.check(True, case, table)
+            for run in product(range(-2, 6), range(-2, 5), range(-2, 3)):
+                for other in all_runs(case[0][1]):
+                    row = ((run, other), ())
+                    if row not in full[2]:
+                        self.check(False, case, [full[0], full[1], full[2] + [row], []])
+                    if run[0] + other[0] == 3 and row not in full[3]:
+                        self.check(False, case, table[:3] + [[row]])
+                    elif run in runs and run[0] + other[0] == 3:
+                        self.check(True, case, table[:3] + [[row]])
 
     def test_rows_left_out_twice_or_in_another_order(self):
         for case in random_cases(26, 60):
