@@ -1,25 +1,25 @@
 """Stage 5: counts; cuts by their numbers in ascending order."""
 
-from reelsplice.layers import reached
+from reelsplice.layers import ends_of, reached
 from reelsplice.plans import Plan
 
 
 def count_cuts(case):
     """The number of cuts of a case."""
     plan = Plan(case)
-    return many_behind(ways_to_end(plan), 0, plan.first)
+    return sum([many for _, many in ends_of(plan, reached(plan)[plan.frames])])
 
 
 def nth_cut(case, n):
     """The cut before which there are just n in ascending order, or None."""
     plan = Plan(case)
-    ways = ways_to_end(plan)
-    if n >= many_behind(ways, 0, plan.first):
+    ways = ways_to_end(plan, reached(plan))
+    if n >= many_behind(plan, ways, 0, plan.first):
         return None
     row, pairs, left = plan.first, [], n
     for k in range(plan.frames):
         for r, place, after in plan.steps(k, row):
-            many = many_behind(ways, k + 1, after)
+            many = many_behind(plan, ways, k + 1, after)
             if left < many:
                 row = after
                 pairs.append((r, place))
@@ -31,25 +31,25 @@ def nth_cut(case, n):
 def number_of(case, cut):
     """How many cuts there are before a cut in ascending order."""
     plan = Plan(case)
-    ways = ways_to_end(plan)
+    ways = ways_to_end(plan, reached(plan))
     row, number = plan.first, 0
     for k, pair in enumerate(cut):
         for r, place, after in plan.steps(k, row):
             if (r, place) == pair:
                 row = after
                 break
-            number += many_behind(ways, k + 1, after)
+            number += many_behind(plan, ways, k + 1, after)
     return number
 
 
-def many_behind(ways, k, row):
+def many_behind(plan, ways, k, row):
     """In how many ways a row at k comes to an end."""
-    return ways[k][row[1]][row[0]]
+    runs, kept = row
+    return ways[k][kept][plan.numbering.number_of(runs)]
 
 
-def ways_to_end(plan):
-    """For each k the layer of the rows that are reached, with the number of ways in which each comes to an end."""
-    layers = reached(plan)
+def ways_to_end(plan, layers):
+    """The layers of the rows that are reached, with the number of ways in which each comes to an end."""
     last = {kept: {runs: 1 if plan.ends(runs) else 0 for runs in part} for kept, part in layers[plan.frames].items()}
     ways = [last]
     for k in reversed(range(plan.frames)):
@@ -64,8 +64,31 @@ def ways_from(plan, k, layer, following):
         ways = {runs: 0 for runs in part}
         for r, kept_after in plan.choices(k, kept):
             target = following[kept_after]
+            moves = plan.moves(k, r, part)
             for runs in part:
-                for _, after in plan.moves(k, r, runs):
+                for _, after in moves[runs]:
                     ways[runs] += target[after]
         found[kept] = ways
+    return found
+
+
+def pair_counts(case):
+    """For each frame a dict from the pairs that a cut has for it to the number of cuts with them."""
+    plan = Plan(case)
+    layers = reached(plan)
+    ways = ways_to_end(plan, layers)
+    return [pair_counts_at(plan, k, layers[k], ways[k + 1]) for k in range(plan.frames)]
+
+
+def pair_counts_at(plan, k, layer, following):
+    """A dict from the pairs by which frame k can be taken to the number of cuts with them."""
+    found = {}
+    for kept, part in layer.items():
+        for r, kept_after in plan.choices(k, kept):
+            target = following[kept_after]
+            moves = plan.moves(k, r, part)
+            for runs, many in part.items():
+                for place, after in moves[runs]:
+                    if target[after] > 0:
+                        found[(r, place)] = found.get((r, place), 0) + many * target[after]
     return found

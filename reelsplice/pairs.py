@@ -29,13 +29,19 @@ def has_pairs(case, value):
     return all([pair is None or is_pair(stock, pair) for pair in value])
 
 
+def misread_frames(case, pairs):
+    """The frames whose pairs have a sign that does not fit, ascending."""
+    stock, tape, _ = case
+    return [
+        k
+        for k, pair in enumerate(pairs)
+        if pair is not None and not fits(stock[pair[0]][0][pair[1]], tape[k])
+    ]
+
+
 def signs_fit(case, pairs):
     """Whether the sign of each pair fits its frame."""
-    stock, tape, _ = case
-    for pair, frame in zip(pairs, tape):
-        if pair is not None and not fits(stock[pair[0]][0][pair[1]], frame):
-            return False
-    return True
+    return misread_frames(case, pairs) == []
 
 
 def ascends(places):

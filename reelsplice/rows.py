@@ -1,17 +1,22 @@
-"""Rows of any values: whether they are rows of a case, and their layers (points [8] and [11])."""
+"""Rows of any values: whether they are rows of a case, and their parts in its layers (points [8] and [11])."""
 
 from reelsplice.kinds import are_integers
 from reelsplice.runs import is_run
 
 
-def are_runs(stock, value):
-    """Whether any value has a run for each reel of a stock."""
+def number_of_runs(numbering, value):
+    """The number of any value that is runs of a stock, or None."""
+    stock = numbering.stock
     if not isinstance(value, tuple) or len(value) != len(stock):
-        return False
-    for reel, run in zip(stock, value):
-        if not are_integers(run, 3) or not is_run(reel, run):
-            return False
-    return True
+        return None
+    for run in value:
+        if not are_integers(run, 3):
+            return None
+    # only what is of integers throughout may be looked up, since True == 1
+    number = numbering.numbers.get(value)
+    if number is None and all([is_run(reel, run) for reel, run in zip(stock, value)]):
+        return numbering.number_of(value)
+    return number
 
 
 def are_kept(stock, value):
@@ -24,31 +29,31 @@ def are_kept(stock, value):
     return True
 
 
-def has_row_form(stock, value):
-    """Whether any value has runs and kept frames, whatever their numbers are."""
+def parts_of(plan, value):
+    """What any value keeps and the number of its runs, if it has the form of a row, else None."""
     if not isinstance(value, tuple) or len(value) != 2:
-        return False
-    return are_runs(stock, value[0]) and are_kept(stock, value[1])
+        return None
+    runs, kept = value
+    number = number_of_runs(plan.numbering, runs)
+    return None if number is None or not are_kept(plan.stock, kept) else (kept, number)
 
 
-def frames_used(row):
-    """How many frames the runs of a row have used."""
-    return sum([run[0] for run in row[0]])
+def parts_of_row(plan, k, value):
+    """What any value keeps and the number of its runs, if it is a row at k, else None."""
+    parts = parts_of(plan, value)
+    if parts is None:
+        return None
+    kept, number = parts
+    return parts if plan.numbering.used[number] == k and [j for j, _ in kept] == plan.looked_at[k] else None
 
 
-def frames_kept(row):
-    """The frames that a row keeps, in its order."""
-    return [j for j, _ in row[1]]
-
-
-def is_row(plan, k, value):
-    """Whether any value is a row at k."""
-    return has_row_form(plan.stock, value) and frames_used(value) == k and frames_kept(value) == plan.looked_at[k]
-
-
-def is_loose_row(plan, k, value):
-    """Whether any value is a loose row at k."""
-    if not has_row_form(plan.stock, value) or frames_used(value) > k:
-        return False
-    frames = frames_kept(value)
-    return frames == [j for j in plan.looked_at[k] if j in frames]
+def parts_of_loose_row(plan, k, value):
+    """What any value keeps and the number of its runs, if it is a loose row at k, else None."""
+    parts = parts_of(plan, value)
+    if parts is None:
+        return None
+    kept, number = parts
+    frames = [j for j, _ in kept]
+    if plan.numbering.used[number] > k or frames != [j for j in plan.looked_at[k] if j in frames]:
+        return None
+    return parts

@@ -1,8 +1,8 @@
 """Stage 4: tables, which show that there is no cut (points [8] and [9])."""
 
-from reelsplice.layers import ending_row, reached, rows_of
-from reelsplice.plans import Plan
-from reelsplice.rows import is_row
+from reelsplice.layers import ends_of, reached, rows_of
+from reelsplice.plans import FIRST_RUNS, Plan
+from reelsplice.rows import parts_of_row
 
 
 def first_row(case):
@@ -18,16 +18,17 @@ def steps(case, k, row):
 
 def ends(case, row):
     """Whether a row at the number of frames ends."""
-    return Plan(case).ends(row[0])
+    plan = Plan(case)
+    return plan.ends(plan.numbering.number_of(row[0]))
 
 
 def find_table(case):
     """The table of all rows that steps lead to, or None if there is a cut."""
     plan = Plan(case)
     layers = reached(plan)
-    if ending_row(plan, layers[plan.frames]) is not None:
+    if ends_of(plan, layers[plan.frames]):
         return None
-    return [rows_of(layer) for layer in layers]
+    return [rows_of(plan, layer) for layer in layers]
 
 
 def layer_of(plan, k, value):
@@ -36,9 +37,10 @@ def layer_of(plan, k, value):
         return None
     layer = {}
     for row in value:
-        if not is_row(plan, k, row):
+        parts = parts_of_row(plan, k, row)
+        if parts is None:
             return None
-        runs, kept = row
+        kept, runs = parts
         part = layer.setdefault(kept, {})
         if runs in part:
             return None
@@ -51,8 +53,9 @@ def leads_into(plan, k, layer, following):
     for kept, part in layer.items():
         for r, kept_after in plan.choices(k, kept):
             target = following.get(kept_after, {})
+            moves = plan.moves(k, r, part)
             for runs in part:
-                if not all([after in target for _, after in plan.moves(k, r, runs)]):
+                if not all([after in target for _, after in moves[runs]]):
                     return False
     return True
 
@@ -63,8 +66,6 @@ def is_table(case, value):
     if not isinstance(value, list) or len(value) != plan.frames + 1:
         return False
     layers = [layer_of(plan, k, rows) for k, rows in enumerate(value)]
-    if None in layers or plan.first_runs not in layers[0].get((), {}):
-        return False
-    if ending_row(plan, layers[plan.frames]) is not None:
+    if None in layers or FIRST_RUNS not in layers[0].get((), {}) or ends_of(plan, layers[plan.frames]):
         return False
     return all([leads_into(plan, k, layers[k], layers[k + 1]) for k in range(plan.frames)])

@@ -4,6 +4,7 @@ Nothing here uses the package; what is found by trying follows the words of
 the document alone.
 """
 
+import copy
 import random
 from itertools import combinations, product
 
@@ -229,3 +230,231 @@ def parts_changed(value):
     elif value is None:
         found.extend([0, False, ()])
     return found
+
+
+def hashable(value):
+    try:
+        hash(value)
+    except TypeError:
+        return False
+    return True
+
+
+def mending_steps(case, prices, k, row):
+    """The rows behind the mending steps from a row at k, each with the cost; no misread frames if that price is None."""
+    stock, tape, sayings = case
+    stranger, misread = prices
+    later = frames_kept_at(sayings, k + 1)
+    found = [((row[0], tuple(pair for pair in row[1] if pair[0] in later)), stranger)]
+    for r, p, after in steps_by_words((stock, ('?',) * len(tape), sayings), k, row):
+        if tape[k] == '?' or stock[r][0][p] in tape[k]:
+            found.append((after, 0))
+        elif misread is not None:
+            found.append((after, misread))
+    return found
+
+
+def joined_steps(case, k, joined):
+    """The joined rows behind the steps from a joined row at k, each with the cost."""
+    row, before = joined
+    return [((after, r), int(before not in (-1, r))) for r, _, after in steps_by_words(case, k, row)]
+
+
+def all_joined(case, k):
+    """All joined rows at k."""
+    return [(row, r) for row in all_rows(case, k) for r in (range(len(case[0])) if k else [-1])]
+
+
+def shown_by_words(values, number, first, steps, ends):
+    """Whether dicts with rows as keys show a number, by the words of the document."""
+    if values[0].get(first) != 0:
+        return False
+    for k in range(len(values) - 1):
+        for row, v in values[k].items():
+            for after, cost in steps(k, row):
+                if after not in values[k + 1] or values[k + 1][after] > v + cost:
+                    return False
+    return all(v >= number for row, v in values[-1].items() if ends(row))
+
+
+def parts_exchanged(pairs):
+    """A tuple of pairs with two of them exchanged, or one put elsewhere."""
+    found = []
+    for i in range(len(pairs)):
+        rest = pairs[:i] + pairs[i + 1:]
+        found.extend(rest[:k] + pairs[i:i + 1] + rest[k:] for k in range(len(pairs)))
+        for k in range(i):
+            found.append(pairs[:k] + (pairs[i],) + pairs[k + 1:i] + (pairs[k],) + pairs[i + 1:])
+    return found
+
+
+class ValuesChecks:
+    """What is asked of values of each kind; a test case adds how they are found and what the words of the document say.
+
+    find(case), least(case), shown(case, value, number), by_words(case, values, number), keys(case, k)
+    """
+
+    some_cases = ()     # small cases of all kinds
+    two_cases = ()      # a case with a number, and one of which each number is shown
+    told_case = None    # a small case with sayings that keep frames
+
+    def check(self, expected, case, value, *numbers):
+        before = repr(value)
+        for number in numbers:
+            self.assertIs(self.shown(case, value, number), expected, (case, value, number))
+        self.assertEqual(repr(value), before)
+
+    def with_dict(self, values, k, part):
+        return values[:k] + [part] + values[k + 1:]
+
+    def test_they_show_the_least(self):
+        nothing = 0
+        for case in self.some_cases:
+            values, least = self.find(case), self.least(case)
+            self.assertEqual(values, self.find(case))
+            if least is None:
+                nothing += 1
+                self.check(True, case, values, 0, 1, 2, 5, 17, 10 ** 29)
+            else:
+                self.check(True, case, values, *range(least + 1))
+                self.check(False, case, values, least + 1, least + 2, 10 ** 29)
+        self.assertTrue(0 < nothing < len(self.some_cases))
+
+    def test_they_are_right_by_words(self):
+        for case in self.some_cases[:40]:
+            values, least = self.find(case), self.least(case)
+            self.assertEqual(len(values), len(case[1]) + 1)
+            for k, part in enumerate(values):
+                keys = self.keys(case, k)
+                for row, v in part.items():
+                    self.assertIn(row, keys)
+                    self.assertIs(type(v), int)
+                    self.assertTrue(0 <= v <= 10 ** 20)
+            for number in [0, 1, 2, 3, 9]:
+                expected = least is None or number <= least
+                self.assertEqual(self.by_words(case, values, number), expected)
+                self.check(expected, case, values, number)
+
+    def test_all_rows_with_nothing(self):
+        for case in self.some_cases[:60]:
+            values = [{row: 0 for row in self.keys(case, k)} for k in range(len(case[1]) + 1)]
+            self.check(True, case, values, 0)
+            self.check(self.by_words(case, values, 1), case, values, 1)
+
+    def test_numbers_changed(self):
+        chance = random.Random(101)
+        for case in self.some_cases[:60]:
+            values = self.find(case)
+            for _ in range(12):
+                k = chance.choice([k for k, part in enumerate(values) if part])
+                changed = copy.deepcopy(values)
+                row = chance.choice(sorted(changed[k]))
+                changed[k][row] = max(0, changed[k][row] + chance.choice([-1, 1, 2]))
+                for number in (0, 1, 2):
+                    self.check(self.by_words(case, changed, number), case, changed, number)
+
+    def test_rows_left_out_or_put_in(self):
+        for case in self.some_cases[:40]:
+            values = self.find(case)
+            for k, part in enumerate(values):
+                for row in part:
+                    fewer = self.with_dict(values, k, {other: v for other, v in part.items() if other != row})
+                    self.check(False, case, fewer, 0, 1, 10 ** 29)
+                for row in self.keys(case, k):
+                    if row not in part:
+                        for v in (0, 9):
+                            more = self.with_dict(values, k, {**part, row: v})
+                            self.check(self.by_words(case, more, 1), case, more, 1)
+
+    def test_order_of_keys_means_nothing(self):
+        for case in self.some_cases[:40]:
+            values, least = self.find(case), self.least(case)
+            for reverse in (False, True):
+                turned = [{row: part[row] for row in sorted(part, reverse=reverse)} for part in values]
+                self.assertEqual(turned, values)
+                self.check(True, case, turned, least or 0)
+                self.check(least is None, case, turned, (least or 0) + 1)
+
+    def test_dicts_left_out_or_exchanged(self):
+        for case in self.two_cases:
+            values = self.find(case)
+            self.check(True, case, values, 0)
+            for other in [values[:-1], values[1:], values + [{}], [{}] + values, values[::-1], tuple(values), [], [{}]]:
+                self.check(False, case, other, 0, 1)
+            for k in range(len(values)):
+                for other in [None, [], list(values[k].items()), list(values[k]), ()]:
+                    self.check(False, case, self.with_dict(values, k, other), 0)
+                if values[k]:
+                    self.check(False, case, self.with_dict(values, k, {}), 0)
+                    self.check(False, case, self.with_dict(values, k, values[k - 1]), 0)
+
+    def test_keys_of_other_forms(self):
+        case = self.told_case
+        values = self.find(case)
+        self.check(True, case, values, 0)
+        for k, part in enumerate(values):
+            keys = self.keys(case, k)
+            self.assertTrue(part)
+            for row in part:
+                for changed in parts_changed(row):
+                    # a truth in the place of an integer is equal to it, so it stands in its key's place
+                    if hashable(changed) and (changed not in keys or repr(changed) != repr(row) and changed == row):
+                        one = {key: v for key, v in part.items() if key != row}
+                        self.check(False, case, self.with_dict(values, k, {**one, changed: part[row]}), 0)
+                        if changed not in keys:
+                            self.check(False, case, self.with_dict(values, k, {**part, changed: 3}), 0)
+        for value in ODD:
+            if hashable(value):
+                self.check(False, case, self.with_dict(values, 2, {**values[2], value: 0}), 0)
+
+    def test_numbers_of_other_kinds(self):
+        for case in self.two_cases:
+            values = self.find(case)
+            for k, part in enumerate(values):
+                for row in part:
+                    for other in [None, False, True, '0', -1, [], (0,), {}]:
+                        self.check(False, case, self.with_dict(values, k, {**part, row: other}), 0)
+            (first,) = values[0]
+            self.check(False, case, [{first: 1}] + values[1:], 0)
+
+    def test_other_values(self):
+        for case in self.two_cases:
+            for value in ODD:
+                self.check(False, case, value, 0, 1)
+
+    def test_values_of_another_case(self):
+        for case, other in zip(self.some_cases, self.some_cases[1:]):
+            values = self.find(other)
+            expected = (len(case[1]) == len(other[1])
+                        and all(row in self.keys(case, k) for k, part in enumerate(values) for row in part)
+                        and self.by_words(case, values, 1))
+            self.check(expected, case, values, 1)
+
+    def test_results_are_new(self):
+        for case in self.two_cases:
+            before = repr(case)
+            values = self.find(case)
+            kept = copy.deepcopy(values)
+            values[1].clear()
+            (first,) = values[0]
+            values[0][first] = 7
+            values.pop()
+            self.assertEqual(self.find(case), kept)
+            self.assertEqual(repr(case), before)
+
+    def check_large(self, case):
+        values, least = self.find(case), self.least(case)
+        self.assertEqual(values, self.find(case))
+        if least is None:
+            self.assertTrue(self.shown(case, values, 10 ** 29))
+        else:
+            self.assertTrue(self.shown(case, values, least))
+            self.assertFalse(self.shown(case, values, least + 1))
+        row = max(values[9])
+        v = values[9].pop(row)
+        self.assertFalse(self.shown(case, values, 0))
+        values[9][row] = v + 1
+        # the row before led to it with its least value
+        self.assertFalse(self.shown(case, values, 0))
+        values[9][row] = v
+        self.assertTrue(self.shown(case, values, least or 0))

@@ -3,11 +3,19 @@
 import unittest
 
 from reelsplice.cases import is_case, is_saying, is_stock, is_tape
+from reelsplice.comparing import find_only, implies, narrowed, same_cuts
 from reelsplice.counts import count_cuts, nth_cut, number_of
 from reelsplice.cuts import find_cut, is_cut
+from reelsplice.desk import Desk
+from reelsplice.errors import InvalidEvent, InvalidText
+from reelsplice.mends import cost, find_mend_values, find_mended, is_mended, least_cost, shows_mend
 from reelsplice.possible import possible, signs_of, sure_frames
+from reelsplice.reading import best_frame, merged, sign_counts
+from reelsplice.shares import cut_of_shares, share_counts, shares
+from reelsplice.splices import cut_with, find_splice_values, shows_splices, splice_counts, splices
 from reelsplice.strangers import fewest_strangers, find_loose, find_values, is_loose, shows
 from reelsplice.tables import ends, find_table, first_row, is_table, steps
+from reelsplice.texts import read_tape, write_tape
 
 CASE = ((('abc', 0, False), ('bd', 0, False)), ('a', 'b', '?', 'd', 'c'), ())
 BACK = ((('bd', 1, False),), ('d', 'b'), ())
@@ -53,16 +61,83 @@ STRANGERS = """
 """
 
 
+MENDS = """
+>>> [find_mended(((('bd', 0, False),), ('b', 'x'), ()), (1, 9)), least_cost(((('bd', 0, False),), ('b', 'x'), ()), (1, 9))]
+[((0, 0), (0, 1)), 9]
+>>> [find_mended(((('bd', 1, False),), ('b', 'x'), ()), (1, 9)), least_cost(BACK, (3, 2)), least_cost(((('bd', 0, False),), (), ()), (1, 1))]
+[((0, 0), None), 3, None]
+>>> [is_mended(BACK, ((0, 0), (0, 1))), cost(BACK, (3, 2), ((0, 0), (0, 1))), is_mended(BACK, ((0, 1), (0, 0)))]
+[True, 4, False]
+"""
+
+SPLICES = """
+>>> [splices(((0, 0), (0, 1), (1, 0), (1, 1), (0, 2))), splice_counts(CASE), cut_with(CASE, 4), cut_with(CASE, 3)]
+[[2, 4], [2, 4], ((0, 0), (1, 0), (0, 1), (1, 1), (0, 2)), None]
+"""
+
+SHARES = """
+>>> [shares(((0, 0), (0, 1), (1, 0), (1, 1), (0, 2)), 3), share_counts(CASE), share_counts(BACK)]
+[(3, 2, 0), {(3, 2): 2}, {}]
+>>> [cut_of_shares(((('a', 1, False), ('a', 1, False)), ('a',), ()), (0, 1)), cut_of_shares(CASE, (2, 3))]
+[((1, 0),), None]
+"""
+
+COMPARING = """
+>>> [find_only(CASE, (CASE[0], CASE[1], (('same', 0, 1),))), implies((CASE[0], CASE[1], (('same', 0, 1),)), CASE), same_cuts(CASE, narrowed(CASE))]
+[((0, 0), (1, 0), (0, 1), (1, 1), (0, 2)), True, True]
+>>> [narrowed(CASE)[1], narrowed(BACK)[1]]
+[('a', 'b', 'b', 'd', 'c'), ('', '')]
+"""
+
+READING = """
+>>> [merged(('?', 'ab', 'c', '?'), ('x', 'bc', 'd', '?')), sign_counts(CASE, 1), best_frame(CASE)]
+[('x', 'b', '', '?'), {'b': 2}, None]
+>>> [sign_counts(((('ab', 1, False),), ('?',), ()), 0), best_frame(((('ab', 1, False),), ('?',), ()))]
+[{'a': 1, 'b': 1}, 0]
+"""
+
+TEXTS = """
+>>> [write_tape(('a', 'bc', '?', '')), read_tape('[?][ac]'), read_tape('')]
+['[a][bc][?][]', ('?', 'ac'), ()]
+>>> read_tape('[ba]')
+raises InvalidText
+"""
+
+DESK = """
+>>> desk = Desk((('abc', 0, False), ('bd', 0, False)), 5)
+>>> [desk.read(0, 'a'), desk.read(3, 'd'), desk.possible(3), desk.say(('same', 0, 1)), desk.case()[1:]]
+[None, None, [(1, 1)], None, (('a', '?', '?', 'd', '?'), (('same', 0, 1),))]
+>>> desk = Desk((('ab', 0, False),), 2)
+>>> [desk.read(0, 'a'), desk.undo(), desk.undo(), desk.case()[2]]
+[None, ('read', 0, 'a'), None, ()]
+>>> desk.read(9, 'a')
+raises InvalidEvent(('read', 9, 'a'))
+"""
+
+
 class Examples(unittest.TestCase):
 
     def check(self, text):
         lines = text.split('\n')
         asked = [k for k, line in enumerate(lines) if line.startswith('>>> ')]
         self.assertTrue(asked)
+        names = dict(globals())
         for k in asked:
-            answer = eval(lines[k][4:], globals())
-            # by their texts, since True == 1
-            self.assertEqual(repr(answer), repr(eval(lines[k + 1])), lines[k])
+            if lines[k + 1].startswith('>>> '):
+                exec(lines[k][4:], names)
+            elif lines[k + 1].startswith('raises '):
+                self.check_raises(lines[k][4:], lines[k + 1][7:], names)
+            else:
+                answer = eval(lines[k][4:], names)
+                # by their texts, since True == 1
+                self.assertEqual(repr(answer), repr(eval(lines[k + 1])), lines[k])
+
+    def check_raises(self, line, told, names):
+        word, _, argument = told.partition('(')
+        with self.assertRaises(eval(word)) as caught:
+            eval(line, names)
+        if argument:
+            self.assertEqual(repr(caught.exception.event), repr(eval('(' + argument)))
 
     def test_cases(self):
         self.check(CASES)
@@ -84,6 +159,29 @@ class Examples(unittest.TestCase):
         self.check(STRANGERS)
         self.assertEqual([shows(CASE, find_values(CASE), 0), shows(CASE, find_values(CASE), 1)], [True, False])
         self.assertEqual([shows(BACK, find_values(BACK), 1), shows(BACK, find_values(BACK), 2)], [True, False])
+
+    def test_mends(self):
+        self.check(MENDS)
+        self.assertEqual([shows_mend(BACK, (3, 2), find_mend_values(BACK, (3, 2)), n) for n in (3, 4)], [True, False])
+
+    def test_splices(self):
+        self.check(SPLICES)
+        self.assertEqual([shows_splices(CASE, find_splice_values(CASE), n) for n in (2, 3)], [True, False])
+
+    def test_shares(self):
+        self.check(SHARES)
+
+    def test_comparing(self):
+        self.check(COMPARING)
+
+    def test_reading(self):
+        self.check(READING)
+
+    def test_texts(self):
+        self.check(TEXTS)
+
+    def test_desk(self):
+        self.check(DESK)
 
 
 if __name__ == '__main__':

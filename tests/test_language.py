@@ -20,7 +20,26 @@ INTERFACE = {
     'possible': {'possible': ['case'], 'signs_of': ['case'], 'sure_frames': ['case']},
     'strangers': {'is_loose': ['case', 'value'], 'find_loose': ['case'], 'fewest_strangers': ['case'],
                   'find_values': ['case'], 'shows': ['case', 'value', 'number']},
+    'mends': {'is_mended': ['case', 'value'], 'cost': ['case', 'prices', 'mended'], 'find_mended': ['case', 'prices'],
+              'least_cost': ['case', 'prices'], 'find_mend_values': ['case', 'prices'],
+              'shows_mend': ['case', 'prices', 'value', 'number']},
+    'splices': {'splices': ['cut'], 'splice_counts': ['case'], 'cut_with': ['case', 'n'], 'find_splice_values': ['case'],
+                'shows_splices': ['case', 'value', 'number']},
+    'shares': {'shares': ['cut', 'reels'], 'share_counts': ['case'], 'cut_of_shares': ['case', 'wanted']},
+    'comparing': {'find_only': ['case', 'other'], 'implies': ['case', 'other'], 'same_cuts': ['case', 'other'],
+                  'narrowed': ['case']},
+    'reading': {'merged': ['tape', 'other'], 'sign_counts': ['case', 'k'], 'best_frame': ['case']},
+    'texts': {'write_tape': ['tape'], 'read_tape': ['text']},
+    'desk': {'Desk': ['stock', 'frames']},
 }
+
+# the methods that stand in the body of a class itself
+CLASSES = {
+    'desk.Desk': {'read': ['k', 'frame'], 'say': ['saying'], 'drop': ['i'], 'undo': [], 'case': [], 'cut': [],
+                  'possible': ['k'], '__eq__': ['other']},
+}
+
+SPECIAL = ('__init__', '__eq__')
 
 BUILTINS = """len range enumerate zip min max sum abs sorted reversed int str bool list tuple dict set isinstance ord repr
 any all divmod type super Exception ValueError TypeError KeyError IndexError LookupError""".split()
@@ -98,7 +117,7 @@ class Language(unittest.TestCase):
                 if isinstance(node, (ast.FunctionDef, ast.ClassDef)):
                     self.assertLessEqual(node.end_lineno - node.lineno + 1, 40 if isinstance(node, ast.FunctionDef) else 399)
                     self.assertEqual(node.decorator_list, [])
-                    if node.name != '__init__':
+                    if node.name not in SPECIAL:
                         self.assertIsNotNone(ast.get_docstring(node), (name, node.name))
 
     def test_statements_and_expressions(self):
@@ -132,7 +151,7 @@ class Language(unittest.TestCase):
                     bound = node.arg
                 elif isinstance(node, ast.FunctionDef):
                     bound = node.name
-                if bound is not None and bound != '__init__':
+                if bound is not None and bound not in SPECIAL:
                     self.assertFalse(hasattr(builtins, bound), (name, bound))
                     self.assertNotIn(bound, shared, (name, bound))
                     self.assertFalse(bound.startswith('__'))
@@ -148,11 +167,20 @@ class Language(unittest.TestCase):
                 if isinstance(node, ast.ClassDef):
                     own |= {part.name for part in node.body if isinstance(part, ast.FunctionDef)}
         plain = set(dir(str)) | set(dir(list)) | set(dir(dict)) | set(dir(set)) | set(dir(int)) | set(dir(bytes))
-        self.assertFalse({name for name in own if name in plain and name != '__init__'})
+        self.assertFalse({name for name in own if name in plain and name not in SPECIAL})
         for name, tree in self.trees():
             for node in ast.walk(tree):
                 if isinstance(node, ast.Call) and isinstance(node.func, ast.Attribute):
                     self.assertIn(node.func.attr, own | set(METHODS), name)
+
+    def test_equality_asks_for_the_class_first(self):
+        for name, tree in self.trees():
+            for node in ast.walk(tree):
+                if isinstance(node, ast.ClassDef):
+                    for part in node.body:
+                        if isinstance(part, ast.FunctionDef) and part.name == '__eq__':
+                            first = ast.unparse(part.body[0]).split('\n')
+                            self.assertEqual(first, [f'if not isinstance(other, {node.name}):', '    return False'])
 
     def test_iterated_at_once(self):
         for name, tree in self.trees():
@@ -190,6 +218,13 @@ class Interface(unittest.TestCase):
                 self.assertEqual(found.__module__, 'reelsplice.' + file)
                 if arguments is not None:
                     self.assertEqual(list(inspect.signature(found).parameters), arguments, name)
+
+    def test_methods_of_classes(self):
+        for path, methods in CLASSES.items():
+            file, name = path.split('.')
+            found = vars(getattr(importlib.import_module('reelsplice.' + file), name))
+            for method, arguments in methods.items():
+                self.assertEqual(list(inspect.signature(found[method]).parameters)[1:], arguments, (path, method))
 
 
 if __name__ == '__main__':

@@ -8,7 +8,8 @@ from itertools import product
 from reelsplice.cuts import find_cut, is_cut
 from reelsplice.strangers import fewest_strangers, find_loose, find_values, is_loose, shows
 from tests.helper import (BACK, CASE, FULL, LONG, LOSSY, ODD, OPEN_TAPE, TURNING, all_loose, all_rows, all_runs,
-                          ends_by_words, frames_kept_at, large_cases, parts_changed, random_cases, stands, steps_by_words)
+                          ends_by_words, hashable, large_cases, mending_steps, parts_changed, random_cases, shown_by_words,
+                          stands)
 
 START = (((0, -1, 0),), ())
 NUMBERS = [0, 1, 2, 5, 17, 10 ** 29]
@@ -18,23 +19,11 @@ def small_cases(seed, many):
     return random_cases(seed, many, frames=4, places=5)
 
 
-def loose_steps(case, k, row):
-    """The rows behind the loose steps from a row at k, each with the cost."""
-    later = frames_kept_at(case[2], k + 1)
-    left_out = (row[0], tuple(pair for pair in row[1] if pair[0] in later))
-    return [(after, 0) for _, _, after in steps_by_words(case, k, row)] + [(left_out, 1)]
-
-
 def shows_by_words(case, values, number):
     """Whether dicts with loose rows as keys show a number, by the words of the document."""
-    if values[0].get((((0, -1, 0),) * len(case[0]), ())) != 0:
-        return False
-    for k in range(len(case[1])):
-        for row, v in values[k].items():
-            for after, cost in loose_steps(case, k, row):
-                if after not in values[k + 1] or values[k + 1][after] > v + cost:
-                    return False
-    return all(v >= number for row, v in values[-1].items() if ends_by_words(case, row))
+    return shown_by_words(values, number, (((0, -1, 0),) * len(case[0]), ()),
+                          lambda k, row: mending_steps(case, (1, None), k, row),
+                          lambda row: ends_by_words(case, row))
 
 
 class IsLoose(unittest.TestCase):
@@ -342,14 +331,6 @@ class Values(unittest.TestCase):
             first[0][START] = 7
             first.pop()
             self.assertEqual(find_values(case), kept)
-
-
-def hashable(value):
-    try:
-        hash(value)
-    except TypeError:
-        return False
-    return True
 
 
 if __name__ == '__main__':
