@@ -1,6 +1,6 @@
 """The rules of the steps from joined rows (point [15])."""
 
-from reelsplice.kinds import is_below, is_integer
+from reelsplice.kinds import is_below
 from reelsplice.plans import Plan
 from reelsplice.rows import parts_of_row
 
@@ -39,6 +39,4 @@ class JoinedRules:
 
     def can_come_before(self, k, value):
         """Whether any value stands for the reel of the frame before frame k: at 0 there is none."""
-        if k > 0:
-            return is_below(value, len(self.plan.stock))
-        return is_integer(value) and value == NO_REEL
+        return is_below(value, len(self.plan.stock)) if k > 0 else value == NO_REEL

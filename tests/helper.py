@@ -232,6 +232,22 @@ def parts_changed(value):
     return found
 
 
+def integers_moved(value):
+    """Tuples that differ from one in one integer, by one, at any depth."""
+    if isinstance(value, tuple):
+        return [value[:k] + (moved,) + value[k + 1:] for k, part in enumerate(value) for moved in integers_moved(part)]
+    return [value - 1, value + 1]
+
+
+def parts_replaced(value, other):
+    """Tuples that differ from one in that another value stands for one part, at any depth."""
+    found = [other]
+    if isinstance(value, tuple):
+        for k, part in enumerate(value):
+            found.extend(value[:k] + (changed,) + value[k + 1:] for changed in parts_replaced(part, other))
+    return found
+
+
 def hashable(value):
     try:
         hash(value)
@@ -406,6 +422,32 @@ class ValuesChecks:
         for value in ODD:
             if hashable(value):
                 self.check(False, case, self.with_dict(values, 2, {**values[2], value: 0}), 0)
+
+    def test_rows_that_there_are_not(self):
+        for case in [self.told_case] + self.some_cases[:25]:
+            values = self.find(case)
+            for k, part in enumerate(values):
+                keys = self.keys(case, k)
+                others = {moved for row in part for moved in integers_moved(row)}
+                if k + 1 < len(values):
+                    others |= set(self.keys(case, k + 1))
+                for other in others:
+                    if other not in keys:
+                        self.check(False, case, self.with_dict(values, k, {**part, other: 9}), 0)
+
+    def test_other_values_within_keys(self):
+        for case in self.two_cases:
+            values = self.find(case)
+            for k, part in enumerate(values):
+                keys = {repr(key) for key in self.keys(case, k)}
+                for row in list(part)[:2]:
+                    rest = {key: v for key, v in part.items() if key != row}
+                    for value in filter(hashable, ODD):
+                        for changed in parts_replaced(row, value):
+                            if repr(changed) not in keys:
+                                self.check(False, case, self.with_dict(values, k, {**rest, changed: part[row]}), 0)
+                                if changed not in part:
+                                    self.check(False, case, self.with_dict(values, k, {**part, changed: 9}), 0)
 
     def test_numbers_of_other_kinds(self):
         for case in self.two_cases:
