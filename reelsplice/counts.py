@@ -51,6 +51,11 @@ def many_behind(plan, ways, k, row):
 def ways_to_end(plan, layers):
     """The layers of the rows that are reached, with the number of ways in which each comes to an end."""
     last = {kept: {runs: 1 if plan.ends(runs) else 0 for runs in part} for kept, part in layers[plan.frames].items()}
+    return ways_into(plan, layers, last)
+
+
+def ways_into(plan, layers, last):
+    """The layers of the rows that are reached, each with its number of ways, by the numbers of the last layer."""
     ways = [last]
     for k in reversed(range(plan.frames)):
         ways.append(ways_from(plan, k, layers[k], ways[-1]))

@@ -1,11 +1,10 @@
 """Stage 14: the desk, which takes readings and sayings as long as there is a cut (point [19])."""
 
-from reelsplice.cases import MOST_SAYINGS, is_frame, is_saying
 from reelsplice.counts import pair_counts
 from reelsplice.cuts import find_cut
+from reelsplice.desk_events import begun, case_behind, is_event
 from reelsplice.errors import InvalidEvent, Refused
 from reelsplice.kinds import is_below
-from reelsplice.reading import merged_frame
 from reelsplice.tables import find_table
 
 
@@ -14,7 +13,7 @@ class Desk:
 
     def __init__(self, stock, frames):
         self.states = []
-        self.accept(None, (stock, ("?",) * frames, ()))
+        self.accept(None, begun(stock, frames))
 
     def accept(self, event, case):
         """Notes an event, None for the beginning, with the case behind it and a cut; refuses it if there is none."""
@@ -23,30 +22,23 @@ class Desk:
             raise Refused(find_table(case))
         self.states.append((event, case, cut))
 
+    def make(self, event):
+        """Makes an event, or raises what is wrong with it."""
+        if not is_event(self.case(), event):
+            raise InvalidEvent(event)
+        self.accept(event, case_behind(self.case(), event))
+
     def read(self, k, frame):
         """Merges frame k with a frame."""
-        event = ("read", k, frame)
-        stock, tape, sayings = self.case()
-        if not is_below(k, len(tape)) or not is_frame(frame):
-            raise InvalidEvent(event)
-        further = tape[:k] + (merged_frame(tape[k], frame),) + tape[k + 1:]
-        self.accept(event, (stock, further, sayings))
+        self.make(("read", k, frame))
 
     def say(self, saying):
         """Takes a saying more."""
-        event = ("say", saying)
-        stock, tape, sayings = self.case()
-        if not is_saying(len(tape), len(stock), saying) or len(sayings) >= MOST_SAYINGS:
-            raise InvalidEvent(event)
-        self.accept(event, (stock, tape, sayings + (saying,)))
+        self.make(("say", saying))
 
     def drop(self, i):
         """Lets saying i go."""
-        event = ("drop", i)
-        stock, tape, sayings = self.case()
-        if not is_below(i, len(sayings)):
-            raise InvalidEvent(event)
-        self.accept(event, (stock, tape, sayings[:i] + sayings[i + 1:]))
+        self.make(("drop", i))
 
     def undo(self):
         """Takes back the last event of the log and returns it; None if there is none."""

@@ -17,6 +17,11 @@ def merged_frame(frame, further):
     return "".join([sign for sign in frame if sign in further])
 
 
+def merged_at(tape, k, frame):
+    """A tape with its frame k merged with a frame."""
+    return tape[:k] + (merged_frame(tape[k], frame),) + tape[k + 1:]
+
+
 def sign_counts(case, k):
     """A dict from each sign that frame k has by some cut to the number of cuts by which it has it."""
     return by_signs(case[0], pair_counts(case)[k])

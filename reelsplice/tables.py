@@ -60,12 +60,20 @@ def leads_into(plan, k, layer, following):
     return True
 
 
+def layers_of(plan, value):
+    """The layers of lists with the first row in which each step leads on, or None if any value is no such lists."""
+    if not isinstance(value, list) or len(value) != plan.frames + 1:
+        return None
+    layers = [layer_of(plan, k, rows) for k, rows in enumerate(value)]
+    if None in layers or FIRST_RUNS not in layers[0].get((), {}):
+        return None
+    if not all([leads_into(plan, k, layers[k], layers[k + 1]) for k in range(plan.frames)]):
+        return None
+    return layers
+
+
 def is_table(case, value):
     """Whether any value is a table of a case."""
     plan = Plan(case)
-    if not isinstance(value, list) or len(value) != plan.frames + 1:
-        return False
-    layers = [layer_of(plan, k, rows) for k, rows in enumerate(value)]
-    if None in layers or FIRST_RUNS not in layers[0].get((), {}) or ends_of(plan, layers[plan.frames]):
-        return False
-    return all([leads_into(plan, k, layers[k], layers[k + 1]) for k in range(plan.frames)])
+    layers = layers_of(plan, value)
+    return layers is not None and not ends_of(plan, layers[plan.frames])

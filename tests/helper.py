@@ -6,6 +6,7 @@ the document alone.
 
 import copy
 import random
+from functools import lru_cache
 from itertools import combinations, product
 
 CASE = ((('abc', 0, False), ('bd', 0, False)), ('a', 'b', '?', 'd', 'c'), ())
@@ -26,6 +27,10 @@ LOSSY = (('abcde', 0, False), ('abcd', 0, False), ('abcde', 1, False), ('abc', 0
 TURNING = (('abcde', 0, True), ('abcde', 0, False), ('abc', 0, True), ('ab', 0, False))
 LONG = (('abcdefghij', 2, False), ('abcdefghi', 1, False))
 OPEN_TAPE = ('?',) * 16
+
+SAYINGS = [('same', 0, 1), ('apart', 0, 2), ('of', 3, 1), ('off', 4, 1)]
+# of three reels, each of which can give any number of frames, nearly everything is possible
+FREE = (('abc', 3, False), ('ab', 2, True), ('c', 1, False))
 
 
 def runs_by_places(places, size, turns):
@@ -301,6 +306,239 @@ def parts_exchanged(pairs):
         found.extend(rest[:k] + pairs[i:i + 1] + rest[k:] for k in range(len(pairs)))
         for k in range(i):
             found.append(pairs[:k] + (pairs[i],) + pairs[k + 1:i] + (pairs[k],) + pairs[i + 1:])
+    return found
+
+
+def made(desk, event):
+    """Makes an event of a desk or of a watcher."""
+    word, *arguments = event
+    return getattr(desk, word)(*arguments)
+
+
+def is_frame_by_words(value):
+    if type(value) is not str:
+        return False
+    return value == '?' or all('a' <= sign <= 'z' for sign in value) and list(value) == sorted(set(value))
+
+
+def merged_by_words(frame, other):
+    if '?' in (frame, other):
+        return other if frame == '?' else frame
+    return ''.join(sorted(set(frame) & set(other)))
+
+
+def case_behind(case, event):
+    """The case behind a valid event, by the words of the document."""
+    stock, tape, sayings = case
+    if event[0] == 'read':
+        _, k, frame = event
+        return (stock, tape[:k] + (merged_by_words(tape[k], frame),) + tape[k + 1:], sayings)
+    if event[0] == 'say':
+        return (stock, tape, sayings + (event[1],))
+    return (stock, tape, sayings[:event[1]] + sayings[event[1] + 1:])
+
+
+def random_event(chance, case):
+    stock, tape, sayings = case
+    word = chance.choice(['read', 'read', 'read', 'say', 'say', 'drop'])
+    if word == 'say' and len(sayings) < 4:
+        return ('say', random_saying(chance, len(tape), len(stock)))
+    if word == 'drop' and sayings:
+        return ('drop', chance.randrange(len(sayings)))
+    return ('read', chance.randrange(len(tape)), random_frame(chance))
+
+
+# watches: the document's, and one whose whole cuts have sixteen frames
+WATCH = ((('abc', 0, False), ('ab', 0, False)), 0, 16)
+LONG_WATCH = ((('ab', 1, False), ('b', 1, False)), 3, 16)
+SHORT = ((('aa', 1, False),), 0, 16)
+TURNED = ((('abcdba', 0, True),), 0, 16)
+MIXED = ((('axyb', 3, False), ('m', 0, False)), 0, 16)
+SIXTEEN = ((('aabbaabb', 0, False), ('abababab', 0, False)), 0, 16)
+
+
+def orders(reel):
+    """All tuples of places that a cut can have of a reel."""
+    signs, loss, turns = reel
+    found = set()
+    for many in range(len(signs) - loss, len(signs) + 1):
+        for places in combinations(range(len(signs)), many):
+            found.add(places)
+            if turns:
+                found.add(places[::-1])
+    return sorted(found)
+
+
+def interleaved(parts):
+    """All ways to put some tuples of pairs into one, each in its own order."""
+    if not any(parts):
+        return [()]
+    found = []
+    for i, part in enumerate(parts):
+        if part:
+            found.extend((part[0],) + rest for rest in interleaved(parts[:i] + [part[1:]] + parts[i + 1:]))
+    return found
+
+
+@lru_cache(maxsize=None)
+def all_tapes(stock):
+    """The cuts of all tapes with frames '?' alone, of any length, ascending."""
+    found = []
+    for chosen in product(*[orders(reel) for reel in stock]):
+        found.extend(interleaved([tuple((r, p) for p in places) for r, places in enumerate(chosen)]))
+    return sorted(found)
+
+
+def signs_along(stock, pairs):
+    return ''.join(stock[r][0][p] for r, p in pairs)
+
+
+def all_whole(watch, head):
+    """All whole cuts, ascending."""
+    stock, least, most = watch
+    found = []
+    for cut in all_tapes(stock):
+        if max(least, len(head)) <= len(cut) <= most:
+            signs = signs_along(stock, cut[:len(head)])
+            if all(frame == '?' or sign in frame for sign, frame in zip(signs, head)):
+                found.append(cut)
+    return found
+
+
+def watch_size(stock):
+    """The product that point [21] names."""
+    size = 1
+    for signs, loss, turns in stock:
+        size *= len(signs) * (loss + 1) * (2 if turns else 1) + 1
+    return size
+
+
+def random_watch(chance):
+    """A small watch, mostly with four to seven places; its empty head may be dead."""
+    fewest = chance.choice([1, 4, 4, 4, 5])
+    while True:
+        stock = tuple(random_reel(chance, chance.choice([2, 3, 4])) for _ in range(chance.choice([1, 2, 2, 3, 3, 4])))
+        if watch_size(stock) <= 100 and fewest <= sum(len(reel[0]) for reel in stock) <= 7:
+            break
+    if chance.random() < 0.5:
+        return (stock, 0, 16)
+    least, most = sorted([chance.randint(0, 7), chance.randint(0, 7)])
+    return (stock, least, most)
+
+
+def loosened(chance, sign):
+    """A frame that a sign fits."""
+    if chance.random() < 0.4:
+        return '?'
+    return ''.join(sorted({sign} | set(chance.sample('abcx', chance.choice([0, 0, 1, 2])))))
+
+
+def random_head(chance, watch, plain=False):
+    """A head, mostly one that is not dead; a plain one has single letters."""
+    cuts = all_whole(watch, ())
+    if cuts and chance.random() < 0.8:
+        cut = chance.choice(cuts)
+        signs = signs_along(watch[0], cut)[:chance.randint(0, len(cut))]
+        return tuple(sign if plain else loosened(chance, sign) for sign in signs)
+    return tuple(random_frame(chance) for _ in range(chance.randint(0, 4)))
+
+
+def small_heads(seed, many, plain=False):
+    """So many watches, each with a head."""
+    chance = random.Random(seed)
+    found = []
+    for _ in range(many):
+        watch = random_watch(chance)
+        found.append((watch, random_head(chance, watch, plain)))
+    return found
+
+
+def turning_heads(seed, many):
+    """So many watches with a reel that turns, each with a head of letters: doubts that have no twins are found there."""
+    chance = random.Random(seed)
+    found = []
+    while len(found) < many:
+        stock = ((''.join(chance.choice('abc') for _ in range(chance.randint(3, 7))), chance.choice([0, 0, 1]), True),)
+        if chance.random() < 0.5:
+            stock += ((chance.choice(['a', 'ab', 'c', 'bc']), 0, False),)
+        if watch_size(stock) <= 100:
+            cut = chance.choice(all_tapes(stock))
+            found.append(((stock, 0, 16), tuple(signs_along(stock, cut[:chance.randint(1, 3)]))))
+    return found
+
+
+def sure_by_trying(watch, head):
+    """The frames of a head that have one pair in all whole cuts, with it, or None if the head is dead."""
+    cuts = all_whole(watch, head)
+    if not cuts:
+        return None
+    pairs = [{cut[k] for cut in cuts} for k in range(len(head))]
+    return {k: min(found) for k, found in enumerate(pairs) if len(found) == 1}
+
+
+def scene_behind(scene, event):
+    """The watch, the head and whether the tape has ended behind a valid event, by the words of the document."""
+    (stock, least, most), head, ended = scene
+    if event[0] == 'end':
+        return ((stock, len(head), len(head)), head, True)
+    if event[0] == 'frame':
+        return ((stock, least, most), head + (event[1],), ended)
+    _, k, frame = event
+    return ((stock, least, most), head[:k] + (merged_by_words(head[k], frame),) + head[k + 1:], ended)
+
+
+def random_scene_event(chance, scene):
+    """An event that is one in a scene, if perhaps not one that is taken."""
+    (stock, least, most), head, ended = scene
+    words = ['again'] * 3 * bool(head) + ['frame'] * 4 * (not ended and len(head) < 16)
+    words += ['end'] * (not ended and least <= len(head) <= most)
+    if not words:
+        return None
+    word = chance.choice(words)
+    letters = ''.join(reel[0] for reel in stock)
+    frame = chance.choice([random_frame(chance), chance.choice(letters), loosened(chance, chance.choice(letters))])
+    if word == 'again':
+        return ('again', chance.randrange(len(head)), frame)
+    return ('frame', frame) if word == 'frame' else ('end',)
+
+
+def totals_of(reel, run):
+    """All numbers of frames that a reel can have given in the end, if a run of it goes on in any way."""
+    found = {run[0]} if len(reel[0]) - run[0] <= reel[1] else set()
+    for _, after in next_runs(reel, run):
+        found |= totals_of(reel, after)
+    return found
+
+
+@lru_cache(maxsize=None)
+def totals(stock, runs):
+    """All numbers of frames that a tape can have behind runs, if frames '?' follow."""
+    sums = {0}
+    for reel, run in zip(stock, runs):
+        sums = {one + other for one in sums for other in totals_of(reel, run)}
+    return sorted(sums)
+
+
+def lives(watch, row):
+    """Whether a row can still end within a watch."""
+    stock, least, most = watch
+    return any(least <= many <= most for many in totals(stock, row[0]))
+
+
+def with_part(values, k, part):
+    """A list with another part in the place of one."""
+    return values[:k] + [part] + values[k + 1:]
+
+
+def lists_disturbed(table):
+    """Lists of lists that differ from some in that one is of another kind, or one part of it left out or doubled."""
+    found = [table[:-1], table[1:], table + [[]], [[]] + table, tuple(table), dict(enumerate(table)), None]
+    for k, part in enumerate(table):
+        found.extend([with_part(table, k, tuple(part)), with_part(table, k, dict.fromkeys(part)), with_part(table, k, None)])
+        for i in range(len(part)):
+            found.append(with_part(table, k, part[:i] + part[i + 1:]))
+            found.append(with_part(table, k, part + [part[i]]))
+            found.append(with_part(table, k, part[:i] + [part[i], part[i]] + part[i + 1:]))
     return found
 
 

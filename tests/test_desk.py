@@ -11,52 +11,16 @@ from reelsplice.desk import Desk
 from reelsplice.errors import InvalidEvent, Refused
 from reelsplice.possible import possible
 from reelsplice.tables import find_table, is_table
-from tests.helper import (FULL, LONG, LOSSY, ODD, OPEN_TAPE, TURNING, all_cuts, random_cases, random_frame, random_reel,
-                          random_saying)
+from tests.helper import (FREE, FULL, LONG, LOSSY, ODD, OPEN_TAPE, SAYINGS, TURNING, all_cuts, case_behind, made,
+                          random_cases, random_event, random_reel)
 
 STOCK = (('abc', 0, False), ('bd', 0, False))
 EVENTS = ('read', 'say', 'drop')
-SAYINGS = [('same', 0, 1), ('apart', 0, 2), ('of', 3, 1), ('off', 4, 1)]
-# of three reels, each of which can give any number of frames, nearly everything is possible
-FREE = (('abc', 3, False), ('ab', 2, True), ('c', 1, False))
 
 
 def kept(desk):
     """All that a desk tells, as a text."""
     return repr((desk.case(), desk.cut(), [desk.possible(k) for k in range(len(desk.case()[1]))]))
-
-
-def made(desk, event):
-    """Makes an event."""
-    word, *arguments = event
-    return {'read': desk.read, 'say': desk.say, 'drop': desk.drop}[word](*arguments)
-
-
-def merged_by_words(frame, other):
-    if '?' in (frame, other):
-        return other if frame == '?' else frame
-    return ''.join(sorted(set(frame) & set(other)))
-
-
-def case_behind(case, event):
-    """The case behind a valid event, by the words of the document."""
-    stock, tape, sayings = case
-    if event[0] == 'read':
-        _, k, frame = event
-        return (stock, tape[:k] + (merged_by_words(tape[k], frame),) + tape[k + 1:], sayings)
-    if event[0] == 'say':
-        return (stock, tape, sayings + (event[1],))
-    return (stock, tape, sayings[:event[1]] + sayings[event[1] + 1:])
-
-
-def random_event(chance, case):
-    stock, tape, sayings = case
-    word = chance.choice(['read', 'read', 'read', 'say', 'say', 'drop'])
-    if word == 'say' and len(sayings) < 4:
-        return ('say', random_saying(chance, len(tape), len(stock)))
-    if word == 'drop' and sayings:
-        return ('drop', chance.randrange(len(sayings)))
-    return ('read', chance.randrange(len(tape)), random_frame(chance))
 
 
 def small_desk(chance):
