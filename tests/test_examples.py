@@ -3,22 +3,36 @@
 import unittest
 
 from reelsplice.cases import is_case, is_saying, is_stock, is_tape
+from reelsplice.coming import can_end, next_letters
 from reelsplice.comparing import find_only, implies, narrowed, same_cuts
 from reelsplice.counts import count_cuts, nth_cut, number_of
 from reelsplice.cuts import find_cut, is_cut
 from reelsplice.desk import Desk
+from reelsplice.doubts import find_parted, pairs_at, pairs_shown, verdict
 from reelsplice.errors import InvalidEvent, InvalidText
+from reelsplice.heads import find_whole, is_dead_table, is_watch, is_whole, lengths, reach
+from reelsplice.logs import is_log, replayed
 from reelsplice.mends import cost, find_mend_values, find_mended, is_mended, least_cost, shows_mend
 from reelsplice.possible import possible, signs_of, sure_frames
 from reelsplice.reading import best_frame, merged, sign_counts
+from reelsplice.settling import settling
 from reelsplice.shares import cut_of_shares, share_counts, shares
 from reelsplice.splices import cut_with, find_splice_values, shows_splices, splice_counts, splices
 from reelsplice.strangers import fewest_strangers, find_loose, find_values, is_loose, shows
 from reelsplice.tables import ends, find_table, first_row, is_table, steps
 from reelsplice.texts import read_tape, write_tape
+from reelsplice.twins import find_pair_table, find_twins, longest_doubt
+from reelsplice.watchers import Watcher
+from reelsplice.watchlogs import first_watch_fault, is_watch_log, watch_log
 
 CASE = ((('abc', 0, False), ('bd', 0, False)), ('a', 'b', '?', 'd', 'c'), ())
 BACK = ((('bd', 1, False),), ('d', 'b'), ())
+STOCK = (('abc', 0, False), ('ab', 0, False))
+WATCH = (STOCK, 0, 16)
+LONG = ((('ab', 1, False), ('b', 1, False)), 3, 16)
+SHORT = ((('aa', 1, False),), 0, 16)
+TURNED = ((('abcdba', 0, True),), 0, 16)
+MIXED = ((('axyb', 3, False), ('m', 0, False)), 0, 16)
 
 CASES = """
 >>> [is_stock(CASE[0]), is_stock((('ab', 3, False),)), is_tape(('ab', '?', '')), is_tape(('ba',)), is_case(BACK)]
@@ -114,6 +128,64 @@ DESK = """
 raises InvalidEvent(('read', 9, 'a'))
 """
 
+LOGS = """
+>>> [is_log((('ab', 0, False),), 2, [(('read', 0, 'a'), ((0, 0), (0, 1)))]), is_log((('ab', 0, False),), 2, [(('read', 0, 'b'), ((0, 0), (0, 1)))])]
+[True, False]
+>>> replayed((('ab', 0, False),), 2, [(('read', 0, 'a'), ((0, 0), (0, 1)))])
+((('ab', 0, False),), ('a', '?'), ())
+"""
+
+HEADS = """
+>>> [is_watch(WATCH), is_watch((STOCK, 3, 2)), is_watch(((('abcdefghij', 9, False),), 0, 16)), reach(STOCK, (((1, 0, 0), (0, -1, 0)), ()))]
+[True, False, False, (5, 5)]
+>>> [is_whole(WATCH, ('a',), ((0, 0), (0, 1), (1, 0), (1, 1), (0, 2))), is_whole(WATCH, ('a',), ((0, 0),)), find_whole(WATCH, ('b',))]
+[True, False, None]
+>>> [lengths(WATCH, ('a',)), lengths(SHORT, ()), lengths(LONG, ()), is_dead_table(WATCH, ('b',), [[(((0, -1, 0), (0, -1, 0)), ())], []])]
+[[5], [1, 2], [3], True]
+"""
+
+COMING = """
+>>> [next_letters(WATCH, ('a',)), next_letters(LONG, ('b',)), next_letters(WATCH, ('b',)), can_end(SHORT, ('a',)), can_end(WATCH, ('a', 'b', 'c'))]
+['ab', 'a', '', True, False]
+"""
+
+DOUBTS = """
+>>> [verdict(WATCH, ('a',), 0), verdict(WATCH, ('b',), 0), pairs_at(WATCH, ('a',), 0), pairs_at(WATCH, ('a', 'b', 'c'), 0), pairs_at(LONG, ('b',), 0)]
+['doubt', 'dead', [(0, 0), (1, 0)], [(0, 0)], [(1, 0)]]
+>>> [verdict(SHORT, ('a',), 0), verdict(SHORT, ('a', '?'), 0), find_parted(SHORT, ('a', '?'), 0), pairs_shown(SHORT, ('a',), 0, [])]
+['doubt', 'sure', None, None]
+"""
+
+TWINS = """
+>>> [longest_doubt(WATCH, ('a',), 0), longest_doubt(TURNED, ('a',), 0), longest_doubt(MIXED, ('abm',), 0), longest_doubt(WATCH, ('a', 'b', 'c'), 0)]
+[4, 1, 3, None]
+>>> [find_twins(TURNED, ('a',), 0), find_twins(SHORT, ('a',), 0), find_twins(MIXED, ('abm', 'x'), 0), find_pair_table(WATCH, ('a', 'b', 'c'), 0)]
+[None, (((0, 0),), ((0, 1),)), None, [[]]]
+"""
+
+SETTLING = """
+>>> [sorted(settling(WATCH, ('a',), 0).items()), sorted(settling(TURNED, ('a', 'b'), 0).items()), sorted(settling(SHORT, ('a',), 0).items())]
+[[('a', False), ('b', False)], [('c', True), ('d', True)], [('', False), ('a', True)]]
+"""
+
+WATCHERS = """
+>>> watcher = Watcher(STOCK, 0, 16)
+>>> [watcher.frame('a'), watcher.frame('b'), watcher.in_doubt(), watcher.frame('c'), watcher.told()[1]]
+[[], [], [0, 1], [(0, (0, 0)), (1, (0, 1)), (2, (0, 2))], (0, 1)]
+>>> [watcher.undo(), watcher.told(), watcher.frame('a'), watcher.again(2, 'ab'), watcher.head()]
+[('frame', 'c'), {}, [], [], ('a', 'b', 'a')]
+>>> watcher.again(3, 'a')
+raises InvalidEvent(('again', 3, 'a'))
+"""
+
+WATCHLOGS = """
+>>> watcher = Watcher((('ab', 0, False),), 0, 16)
+>>> [watcher.frame('?'), watch_log(watcher)[0][1][0][:2], watch_log(watcher)[0][2], is_watch_log(((('ab', 0, False),), 0, 16), watch_log(watcher))]
+[[(0, (0, 0))], (0, (0, 0)), [], True]
+>>> [first_watch_fault(SHORT, [(('frame', 'a'), [], [(0, ((0, 0),), ((0, 1),))])]), first_watch_fault(SHORT, [(('frame', 'a'), [], [])])]
+[None, 0]
+"""
+
 
 class Examples(unittest.TestCase):
 
@@ -182,6 +254,30 @@ class Examples(unittest.TestCase):
 
     def test_desk(self):
         self.check(DESK)
+
+    def test_logs(self):
+        self.check(LOGS)
+
+    def test_heads(self):
+        self.check(HEADS)
+
+    def test_coming(self):
+        self.check(COMING)
+
+    def test_doubts(self):
+        self.check(DOUBTS)
+
+    def test_twins(self):
+        self.check(TWINS)
+
+    def test_settling(self):
+        self.check(SETTLING)
+
+    def test_watchers(self):
+        self.check(WATCHERS)
+
+    def test_watchlogs(self):
+        self.check(WATCHLOGS)
 
 
 if __name__ == '__main__':

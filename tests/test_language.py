@@ -31,12 +31,29 @@ INTERFACE = {
     'reading': {'merged': ['tape', 'other'], 'sign_counts': ['case', 'k'], 'best_frame': ['case']},
     'texts': {'write_tape': ['tape'], 'read_tape': ['text']},
     'desk': {'Desk': ['stock', 'frames']},
+    'logs': {'log': ['desk'], 'is_log': ['stock', 'frames', 'value'], 'replayed': ['stock', 'frames', 'log']},
+    'heads': {'is_watch': ['value'], 'reach': ['stock', 'row'], 'is_whole': ['watch', 'head', 'value'],
+              'is_dead_table': ['watch', 'head', 'value'], 'find_whole': ['watch', 'head'],
+              'find_dead_table': ['watch', 'head'], 'lengths': ['watch', 'head']},
+    'coming': {'next_letters': ['watch', 'head'], 'can_end': ['watch', 'head']},
+    'doubts': {'verdict': ['watch', 'head', 'k'], 'pairs_at': ['watch', 'head', 'k'],
+               'find_marked': ['watch', 'head', 'k'], 'pairs_shown': ['watch', 'head', 'k', 'value'],
+               'find_parted': ['watch', 'head', 'k']},
+    'twins': {'longest_doubt': ['watch', 'head', 'k'], 'find_doubt': ['watch', 'head', 'k'],
+              'find_twins': ['watch', 'head', 'k'], 'find_pair_table': ['watch', 'head', 'k'],
+              'is_pair_table': ['watch', 'head', 'k', 'value']},
+    'settling': {'settling': ['watch', 'head', 'k']},
+    'watchers': {'Watcher': ['stock', 'least', 'most']},
+    'watchlogs': {'watch_log': ['watcher'], 'first_watch_fault': ['watch', 'value'], 'is_watch_log': ['watch', 'value'],
+                  'resumed_watcher': ['watch', 'log']},
 }
 
 # the methods that stand in the body of a class itself
 CLASSES = {
     'desk.Desk': {'read': ['k', 'frame'], 'say': ['saying'], 'drop': ['i'], 'undo': [], 'case': [], 'cut': [],
                   'possible': ['k'], '__eq__': ['other']},
+    'watchers.Watcher': {'frame': ['frame'], 'again': ['k', 'frame'], 'end': [], 'undo': [], 'head': [], 'watch': [],
+                         'has_ended': [], 'told': [], 'in_doubt': [], '__eq__': ['other']},
 }
 
 SPECIAL = ('__init__', '__eq__')
