@@ -61,8 +61,8 @@ def find_doubt(watch, head, k):
     layers = pair_layers(watch, head, k)
     if not layers:
         return None
-    for (row, other), (way, other_way) in layers[-1].items():
-        return tuple(sorted([whole_behind(watch, row, way), whole_behind(watch, other, other_way)]))
+    rows, ways = list(layers[-1].items())[0]
+    return tuple(sorted([whole_behind(watch, row, way) for row, way in zip(rows, ways)]))
 
 
 def find_twins(watch, head, k):
